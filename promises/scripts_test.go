@@ -127,8 +127,8 @@ func wildOp(r *rand.Rand, x api.Script, w wish, n int) api.Op {
 	return api.Op{Kind: api.OpChange, Changes: []api.Change{{Kind: kind, Class: c}}}
 }
 
-// script is made up of a seed; its classes are added in its first operation, and changed later only if it is wild.
-func script(seed int64, w wish) api.Script {
+// made is a script that is made up of a seed; its classes are added in its first operation, and changed later only if it is wild.
+func made(seed int64, w wish) api.Script {
 	r := rand.New(rand.NewSource(seed))
 	x := api.Script{Config: api.Config{T: []int{1, 1, 2, 3, 7, 100}[r.Intn(6)], Lmax: 1 + r.Intn(400)}}
 	add := classes(r, w, x.Config.T)
@@ -153,6 +153,6 @@ func script(seed int64, w wish) api.Script {
 // every goes through scripts of a kind.
 func every(many int, w wish, do func(seed int64, x api.Script)) {
 	for seed := range int64(many) {
-		do(seed, script(seed, w))
+		do(seed, made(seed, w))
 	}
 }
