@@ -53,6 +53,9 @@ func TestLinks(t *testing.T) {
 		}
 	}
 	x := api.Config{T: api.MaxT, Lmax: api.MaxLen}
+	if f := Check(api.Config{T: 1, Lmax: 1}, nil); f != (Found{}) {
+		t.Error(f)
+	}
 	p := api.Packet{Len: api.MaxLen}
 	e := out(0, api.MaxClock, 1, p)
 	e.Done = api.MaxClock + api.MaxLen*api.MaxT

@@ -92,6 +92,9 @@ func fewest(h int) int {
 
 func hold(t *testing.T, x *Tree, m model) {
 	t.Helper()
+	if !evenly(x.root) {
+		t.Fatalf("%v is not balanced", m)
+	}
 	if !slices.Equal(x.Items(), m) || x.Len() != len(m) || len(m) < fewest(x.Height()) {
 		t.Fatalf("%v instead of %v, height %d", x.Items(), m, x.Height())
 	}
@@ -149,6 +152,24 @@ func TestAgainstAList(t *testing.T) {
 			}
 		}
 	}
+}
+
+// evenly tells whether all nodes below one are, and know what stands below them.
+func evenly(n *node) bool {
+	if n == nil {
+		return true
+	}
+	best := n.item
+	for _, x := range [2]*node{n.left, n.right} {
+		walk(x, func(i Item) {
+			if c := rank.Compare(i.Val, best.Val); c < 0 || c == 0 && rank.Compare(i.Key, best.Key) < 0 {
+				best = i
+			}
+		})
+	}
+	d := height(n.left) - height(n.right)
+	right := n.best == best && n.height == 1+max(height(n.left), height(n.right)) && d >= -1 && d <= 1
+	return right && evenly(n.left) && evenly(n.right)
 }
 
 func TestRows(t *testing.T) {

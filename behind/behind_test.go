@@ -80,6 +80,10 @@ func TestErrors(t *testing.T) {
 			t.Error(i, x, e)
 		}
 	}
+	// 202 bytes are as far ahead as may be
+	if b := (fair.Got{Slope: 65536}); !Holds(fair.Got{Slope: 65536, Bytes: 202}, b, 100, 65536) || Holds(fair.Got{Slope: 65536, Bytes: 203}, b, 100, 65536) || !Holds(b, fair.Got{Slope: 65536, Bytes: 900}, 100, 65536) {
+		t.Error("Holds")
+	}
 	for i, c := range []struct {
 		m     uint64
 		s     []uint64

@@ -55,7 +55,7 @@ func TestBound(t *testing.T) {
 		want  uint64
 		err   api.Errno
 	}{
-		{wire, one, 0, 100, api.OK}, {wire, api.Curve{M1: 65535, M2: 65535}, 1, 102, api.OK}, {wire, api.Curve{D: 9, M2: 65536}, 5, 114, api.OK}, {wire, api.Curve{M1: 65537, D: 9, M2: 65536}, 5, 105, api.OK}, {api.Config{T: api.MaxT, Lmax: api.MaxLen}, api.Curve{M1: 1, M2: 1}, api.MaxBytes, 1<<56 + 1<<30, api.OK},
+		{wire, one, 0, 100, api.OK}, {wire, api.Curve{M1: 65535, M2: 65535}, 1, 102, api.OK}, {wire, api.Curve{D: 9, M2: 65536}, 5, 114, api.OK}, {wire, api.Curve{M1: 65537, D: 9, M2: 65536}, 5, 105, api.OK}, {api.Config{T: api.MaxT, Lmax: api.MaxLen}, api.Curve{M1: 1, M2: 1}, api.MaxBytes, 1<<56 + 1<<30, api.OK}, {api.Config{T: 1, Lmax: 1}, one, 7, 8, api.OK},
 		{wire, one, api.MaxBytes + 1, 0, api.ErrArg}, {api.Config{}, api.Curve{}, 0, 0, api.ErrArg}, {api.Config{T: 1}, one, 0, 0, api.ErrArg}, {api.Config{T: api.MaxT + 1, Lmax: 1}, one, 0, 0, api.ErrArg}, {api.Config{T: 1, Lmax: api.MaxLen + 1}, one, 0, 0, api.ErrArg},
 		{wire, api.Curve{}, 0, 0, api.ErrCurve}, {wire, api.Curve{M1: 5, D: 5}, 0, 0, api.ErrCurve}, {wire, api.Curve{M1: 1, D: 1, M2: 2}, 0, 0, api.ErrCurve},
 	} {

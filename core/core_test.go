@@ -54,6 +54,9 @@ func TestNew(t *testing.T) {
 			t.Error(c, err)
 		}
 	}
+	if _, err := New(api.Config{T: 1, Lmax: 1}); err != api.OK {
+		t.Error(err)
+	}
 	c := api.Config{T: api.MaxT, Lmax: api.MaxLen}
 	if s, err := New(c); err != api.OK || s.Config() != c || s.Due() != api.Never {
 		t.Error(err)

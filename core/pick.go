@@ -25,14 +25,12 @@ func (s *Sched) fit(e *entry) uint64 {
 	return upper.Inner(e.limit.Fit, s.shares[e.class.ID].Fit())
 }
 
-// place puts an active class into its parent's table, as it is now.
-func (s *Sched) place(e *entry) { s.children(e.class.Parent).Set(e.class.ID, e.share.Time, s.fit(e)) }
-
-// renew places all active classes of a way up: what has changed below changes from when on they fit.
+// renew puts the active classes of a way up into their parents' tables, as they are now: from the leaf on, since an inner class fits by what is below it.
 func (s *Sched) renew(way []int) {
 	for _, id := range way {
 		if s.active.Is(id) {
-			s.place(s.entries[id])
+			e := s.entries[id]
+			s.children(e.class.Parent).Set(id, e.share.Time, s.fit(e))
 		}
 	}
 }
@@ -52,7 +50,6 @@ func (s *Sched) wake(leaf *entry, now uint64) {
 		low, _ := s.children(e.class.Parent).Low()
 		e.share = share.Wake(e.share, e.class.Ls, low, e.total)
 		e.limit = upper.Wake(e.limit, e.class.Ul, now, e.total)
-		s.place(e)
 	}
 	s.renew(s.tree.Up(id))
 }

@@ -98,7 +98,7 @@ func TestGreatNumbers(t *testing.T) {
 		want uint64
 	}{
 		{one, wide.Of(api.Never - 1), api.Never - 1}, {one, wide.Of(api.Never), api.Never}, {one, wide.Of(1<<64 - 1), api.Never}, {one, wide.Num{Hi: 1}, api.Never},
-		{api.Curve{D: 10, M2: 1}, wide.Of(api.Never - 11), api.Never - 1}, {api.Curve{D: 10, M2: 1}, wide.Of(api.Never - 10), api.Never}, {api.Curve{D: 10, M2: 1}, wide.Of(1<<64 - 5), api.Never},
+		{api.Curve{D: 10, M2: 1}, wide.Of(api.Never - 11), api.Never - 1}, {api.Curve{D: 10, M2: 1}, wide.Of(api.Never - 10), api.Never}, {api.Curve{D: 10, M2: 1}, wide.Of(api.Never), api.Never}, {api.Curve{D: 10, M2: 1}, wide.Of(1<<64 - 5), api.Never},
 		{steep, wide.Num{Hi: 1<<64 - 1, Lo: 1<<64 - 1}, api.Never}, {api.Curve{M1: 2, D: 3}, wide.Of(6), 3}, {api.Curve{M1: 2, D: 3}, wide.Of(7), api.Never},
 		{api.Curve{}, wide.Num{}, 0}, {api.Curve{}, wide.Of(1), api.Never}, {api.Curve{D: 5, M2: 1}, wide.Num{}, 0},
 		{api.Curve{M1: 1, D: 1, M2: 2}, wide.Num{}, api.Never}, {api.Curve{M1: 1, D: 1, M2: 2}, wide.Of(1), api.Never},

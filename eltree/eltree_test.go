@@ -32,8 +32,8 @@ func TestNilAndEmpty(t *testing.T) {
 				t.Error("Set of nil")
 			}
 		}
-		if _, _, e := x.Get(1); e != want || x.Drop(1) != want {
-			t.Error(e)
+		if a, b, e := x.Get(1); a != 0 || b != 0 || e != want || x.Drop(1) != want {
+			t.Error(a, b, e)
 		}
 		if id, ok := x.Pick(1<<64 - 1); id != 0 || ok || x.Next() != api.Never || x.Len() != 0 || len(x.IDs()) != 0 {
 			t.Error(id, ok)

@@ -71,7 +71,7 @@ func TestClasses(t *testing.T) {
 	for s, want := range map[string]api.Errno{
 		"": api.ErrForm, "3 1 leaf - 65536 9:2:1 10": api.ErrForm, "3 1 leaf - 65536 9:2:1 10 1500 1": api.ErrForm, "3  1 leaf - 65536 9:2:1 10": api.ErrForm, " 3 1 leaf - 65536 9:2:1 10": api.ErrForm, "3 1 leaf - 65536 9:2:1 10 ": api.ErrForm, "3 1 leaf - 65536 9:2:1  1500": api.ErrForm,
 		"3 1 Leaf - 65536 9:2:1 10 1500": api.ErrForm, "x 1 leaf - 65536 9:2:1 10 1500": api.ErrForm, "9223372036854775808 x leaf - 65536 9:2:1 10 1500": api.ErrOver, "3 9223372036854775808 x - 65536 9:2:1 10 1500": api.ErrOver, "3 1 leaf 0 18446744073709551616 9:2:1 10 1500": api.ErrForm,
-		"3 1 leaf - 18446744073709551616 9:2 10 1500": api.ErrOver, "3 1 leaf - 65536 9:2 9223372036854775808 1500": api.ErrForm, "3 1 leaf - 65536 9:2:1 9223372036854775808 x": api.ErrOver, "3 1 leaf - 65536 9:2:1 10 01500": api.ErrForm, "3 1 leaf - 65536 9:2:1 10 9223372036854775808": api.ErrOver,
+		"3 1 leaf - 18446744073709551616 9:2 10 1500": api.ErrOver, "3 1 leaf - 65536 9:2 9223372036854775808 1500": api.ErrForm, "3 1 leaf - 65536 9:2:1 9223372036854775808 x": api.ErrOver, "9223372036854775808 1 leaf - 65536 9:2:1 10 ": api.ErrForm, "9223372036854775808 1  - 65536 9:2:1 10 1500": api.ErrForm, "3 1 leaf - 65536 9:2:1 10 01500": api.ErrForm, "3 1 leaf - 65536 9:2:1 10 9223372036854775808": api.ErrOver,
 		"3 1 leaf - " + strings.Repeat("9", 81) + " - 10 1500": api.ErrLong, "x 1 leaf - " + strings.Repeat("9", 81) + " - 10 1500": api.ErrForm,
 		strings.Repeat(" ", 400): api.ErrForm, strings.Repeat(" ", 401): api.ErrLong,
 	} {

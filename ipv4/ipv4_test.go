@@ -97,6 +97,12 @@ func TestWhatMayNotBe(t *testing.T) {
 			t.Errorf("%x: %v instead of %v", s, e, want)
 		}
 	}
+	long, _ := Encode(Header{}, strings.Repeat("b", 60))
+	for b, want := range map[byte]api.Errno{80: api.ErrForm, 79: api.ErrState, 68: api.ErrForm} {
+		if _, _, e := Decode(string([]byte{b}) + long[1:]); e != want {
+			t.Error(b, e)
+		}
+	}
 	// the body is not in the header's sum
 	if _, b, e := Decode(with(20, 'B')); b != "Body" || e != api.OK {
 		t.Error(b, e)

@@ -43,7 +43,9 @@ func TestExample(t *testing.T) {
 	// both leaves are one span, and a place in it counts, not the span's
 	hold(t, half, 100, []api.Event{in(1, 5, 60), in(2, 5, 60), in(3, 5, 900), out(3, 5, 900), out(1, 5, 60), out(2, 5, 60)}, []int{2, 1, 1}, 5, true)
 	// a tick that is not above the span's begin gives nothing; bytes below 0 count as none
-	hold(t, half, 100, []api.Event{in(1, 500, 60), out(1, 0, 101)}, one, 1, true)
+	steep := api.Curve{M1: 65536, M2: 65536}
+	hold(t, steep, 100, []api.Event{in(1, 500, 60), out(1, 0, 101)}, one, 1, true)
+	hold(t, steep, 100, []api.Event{in(1, 500, 60), out(1, 501, 101)}, one, 0, false)
 	hold(t, half, 100, []api.Event{in(1, 5, 60), in(1, 5, 60), out(1, 5, -1), out(1, 5, 100)}, one, 0, false)
 	hold(t, half, -5, []api.Event{in(1, 5, 60), out(1, 25, 10)}, one, 0, false)
 	hold(t, half, -5, []api.Event{in(1, 5, 60), out(1, 25, 11)}, one, 1, true)

@@ -36,6 +36,10 @@ func TestExample(t *testing.T) {
 	if q.Counts() != (Counts{In: 2, Drops: 2, BytesIn: 100, BytesDrops: 51}) || q.Head() != 60 || q.Len() != 2 || q.Bytes() != 100 {
 		t.Error(q.Counts(), q.Head(), q.Len(), q.Bytes())
 	}
+	q, _ = New(1, api.MaxQueue)
+	if e := q.Push(api.Packet{Len: api.MaxLen}); e != api.OK || q.Bytes() != api.MaxLen {
+		t.Error(e)
+	}
 	// there is room for bytes, but not for a packet
 	q, _ = New(1, 100)
 	if q.Push(api.Packet{Len: 1}) != api.OK || q.Push(api.Packet{Len: 1}) != api.ErrDrop {

@@ -26,7 +26,7 @@ func TestDelay(t *testing.T) {
 		bytes uint64
 		want  uint64
 	}{
-		{wire, one, 50, 150}, {wire, one, 0, 100}, {api.Config{T: 3, Lmax: 7}, api.Curve{M1: 32768, M2: 32768}, 5, 31}, {wire, api.Curve{D: 10, M2: 65536}, 5, 115}, {wire, api.Curve{M1: 65536, D: 3}, 3, 103},
+		{api.Config{T: 1, Lmax: 1}, one, 50, 51}, {api.Config{T: api.MaxT, Lmax: api.MaxLen}, one, 50, 1<<30 + 50}, {wire, one, 50, 150}, {wire, one, 0, 100}, {api.Config{T: 3, Lmax: 7}, api.Curve{M1: 32768, M2: 32768}, 5, 31}, {wire, api.Curve{D: 10, M2: 65536}, 5, 115}, {wire, api.Curve{M1: 65536, D: 3}, 3, 103},
 		{wire, api.Curve{M1: 65536, D: 3}, 4, api.Never}, {wire, api.Curve{}, 1, api.Never}, {wire, api.Curve{}, 0, 100}, {wire, api.Curve{M1: 1, D: 1, M2: 2}, 0, api.Never},
 		{wire, one, api.Never - 101, api.Never - 1}, {wire, one, api.Never - 100, api.Never}, {wire, one, 1<<64 - 1, api.Never},
 	} {

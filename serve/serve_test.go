@@ -74,7 +74,10 @@ func TestKept(t *testing.T) {
 	if !Kept(x, one, early, 1, 60) || Kept(x, one, early, 1, 61) {
 		t.Error("the earlier span")
 	}
-	// no curve asks nothing
+	// no curve asks nothing, but a span that has not begun is none
+	if Kept(x, api.Curve{}, []api.Event{in(100, 10)}, 1, 99) {
+		t.Error("a span that has not begun")
+	}
 	if !Kept(x, api.Curve{}, l, 1, 1<<62) {
 		t.Error("what no curve asks")
 	}

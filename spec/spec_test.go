@@ -39,7 +39,7 @@ func TestRight(t *testing.T) {
 		{api.OK, leaf(func(c *api.Class) { c.Rt = convex })}, {api.ErrCurve, leaf(func(c *api.Class) { c.Ls = convex })}, {api.ErrCurve, leaf(func(c *api.Class) { c.Ul = convex })},
 		{api.OK, leaf(func(c *api.Class) { c.Rt, c.Ls, c.Ul = concave, concave, concave })}, {api.OK, leaf(func(c *api.Class) { c.Rt, c.Ls = linear, none })},
 		{api.ErrLeaf, leaf(func(c *api.Class) { c.Ls = none })}, {api.ErrLeaf, leaf(func(c *api.Class) { c.Rt, c.Ls, c.Ul = linear, none, linear })}, {api.OK, leaf(func(c *api.Class) { c.Ul = linear })},
-		{api.ErrLeaf, leaf(func(c *api.Class) { c.Pkts = 0 })}, {api.ErrLeaf, leaf(func(c *api.Class) { c.Pkts = -1 })}, {api.ErrLeaf, leaf(func(c *api.Class) { c.Pkts = api.MaxPkts + 1 })}, {api.OK, leaf(func(c *api.Class) { c.Pkts = api.MaxPkts })},
+		{api.ErrLeaf, leaf(func(c *api.Class) { c.Pkts = 0 })}, {api.ErrLeaf, leaf(func(c *api.Class) { c.Pkts = -1 })}, {api.ErrLeaf, leaf(func(c *api.Class) { c.Pkts = api.MaxPkts + 1 })}, {api.OK, leaf(func(c *api.Class) { c.Pkts = api.MaxPkts })}, {api.OK, leaf(func(c *api.Class) { c.Pkts, c.Bytes = 1, 1 })},
 		{api.ErrLeaf, leaf(func(c *api.Class) { c.Bytes = 0 })}, {api.ErrLeaf, leaf(func(c *api.Class) { c.Bytes = api.MaxQueue + 1 })}, {api.OK, leaf(func(c *api.Class) { c.Bytes = api.MaxQueue })},
 		{api.ErrLeaf, inner(func(c *api.Class) { c.Pkts = 1 })}, {api.ErrLeaf, inner(func(c *api.Class) { c.Bytes = 1 })}, {api.ErrLeaf, inner(func(c *api.Class) { c.Bytes = -1 })}, {api.ErrLeaf, inner(func(c *api.Class) { c.Rt = linear })},
 		{api.OK, inner(func(c *api.Class) { c.Ls = none })}, {api.ErrLeaf, inner(func(c *api.Class) { c.Ls, c.Ul = none, linear })}, {api.OK, inner(func(c *api.Class) { c.Ls, c.Ul = concave, concave })},

@@ -90,6 +90,12 @@ func TestTouched(t *testing.T) {
 	if !slices.Equal(Touched(x, y), []int{1}) || Reals(x, y) || Reals(y, x) {
 		t.Error(Touched(x, y))
 	}
+	z := hier.New()
+	z.Add(leaf(5, 0))
+	z.Add(leaf(3, 0))
+	if !slices.Equal(Touched(z, x), []int{1, 2, 3, 5}) || !slices.Equal(Touched(x, z), []int{1, 2, 3, 5}) {
+		t.Error(Touched(z, x))
+	}
 	y.Set(leaf(2, 0)) // Real in one of the two alone
 	if !slices.Equal(Touched(x, y), []int{1, 2}) || !Reals(x, y) || !Reals(y, x) {
 		t.Error(Touched(x, y))

@@ -63,13 +63,10 @@ func Mul(a, b uint64) Num {
 // half is the lower (0) or the higher (1) half of a number.
 func half(v uint64, i int) uint64 { return v >> (halfBits * i) & halfMask }
 
-// moved is a number moved up by so many halves.
+// moved is a number moved up by so many halves, two at the most.
 func moved(v uint64, halves int) Num {
 	up := uint(halves * halfBits)
-	// a shift by 64 or more leaves nothing, so each half is told apart
-	if up >= wordBits {
-		return Num{Hi: v << (up - wordBits)}
-	}
+	// a shift by 64 leaves nothing of either half
 	return Num{Hi: v >> (wordBits - up), Lo: v << up}
 }
 
